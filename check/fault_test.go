@@ -49,21 +49,27 @@ func all(t *testing.T, sql string, faults []fault) {
 	}
 }
 
-// worsened is a statement that may not be any more; of a DROP there is nothing but the Kind that could be wrong.
-func worsened(s api.Stmt) api.Stmt {
+// worsened are statements that may not be any more, by why: each is wrong at one place.
+func worsened(s api.Stmt) map[string]api.Stmt {
+	kind, limit, on := s, s, s
+	kind.Kind = 7
+	limit.Limit = -2
+	on.Join = "none"
+	out := map[string]api.Stmt{"no Kind": kind, "a Limit that is too low": limit, "a Join without On": on}
 	switch s.Kind {
 	case 1:
 		s.Columns = nil
 	case 2:
-		s.Kind = 7
+		return out
 	case 3, 4:
 		s.Sets = append(s.Sets[:len(s.Sets):len(s.Sets)], api.Set{})
 	case 5:
 		s.Where = node(api.Node{})
 	case 6:
-		s.Limit = -2
+		s.Items = nil
 	}
-	return s
+	out["a part that may not be"] = s
+	return out
 }
 
 // P13.2: ErrStore goes ahead of all else, ErrStmt of all but that.
@@ -84,16 +90,20 @@ func TestStoreAndStmtGoAhead(t *testing.T) {
 		tells(t, api.OK, sql)
 		wrong := s
 		wrong.Table = "none"
-		worse := worsened(s)
 		for why, store := range stores {
 			refuses(t, why+": "+sql, store, s, api.ErrStore)
 			refuses(t, why+" and no table: "+sql, store, wrong, api.ErrStore)
-			refuses(t, why+" and no statement: "+sql, store, worse, api.ErrStore)
 			refuses(t, why+" and nothing", store, api.Stmt{}, api.ErrStore)
+			for other, worse := range worsened(s) {
+				refuses(t, why+" and "+other+": "+sql, store, worse, api.ErrStore)
+			}
 		}
-		worse.Table = "none"
-		refuses(t, "no table and no statement: "+sql, good, worse, api.ErrStmt)
-		refuses(t, "no tables and no statement: "+sql, api.Store{}, worse, api.ErrStmt)
+		for why, worse := range worsened(s) {
+			refuses(t, why+": "+sql, good, worse, api.ErrStmt)
+			worse.Table = "none"
+			refuses(t, "no table and "+why+": "+sql, good, worse, api.ErrStmt)
+			refuses(t, "no tables and "+why+": "+sql, api.Store{}, worse, api.ErrStmt)
+		}
 		if s.Kind != 1 {
 			refuses(t, "no tables: "+sql, api.Store{}, s, api.ErrNone)
 		} else {

@@ -8,8 +8,13 @@ import (
 // noLimit is the least Limit.
 const noLimit = -1
 
-// May: P13.1. Join, On and Limit count of a SELECT alone: no other statement can say them.
+// May: P13.1.
 func May(s api.Stmt) bool {
+	return mayParts(s) && mayOn(s) && s.Limit >= noLimit
+}
+
+// mayParts asks what is asked of some Kinds alone. No Kinds are named of On and of Limit, so each one is asked for these.
+func mayParts(s api.Stmt) bool {
 	switch s.Kind {
 	case api.StCreate:
 		return few(s.Columns)
@@ -22,7 +27,7 @@ func May(s api.Stmt) bool {
 	case api.StDelete:
 		return mayWhere(s)
 	case api.StSelect:
-		return mayItems(s) && mayWhere(s) && (s.Join == "" || mayExpr(s.On)) && s.Limit >= noLimit
+		return mayItems(s) && mayWhere(s)
 	}
 	return false
 }
@@ -37,6 +42,10 @@ func mayItems(s api.Stmt) bool {
 
 func mayWhere(s api.Stmt) bool {
 	return len(s.Where.Nodes) == 0 || mayExpr(s.Where)
+}
+
+func mayOn(s api.Stmt) bool {
+	return s.Join == "" || mayExpr(s.On)
 }
 
 // few tells whether there is one at least, and no more than a text has tokens.

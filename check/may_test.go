@@ -211,10 +211,14 @@ func holders() map[string]func(e api.Expr) api.Stmt {
 			return s
 		}
 	}
-	out["On"] = func(e api.Expr) api.Stmt {
-		s := plain(6)
-		s.Join, s.On = "u", e
-		return s
+	for kind := 1; kind <= 6; kind++ {
+		for _, join := range []string{"u", "t", "none"} {
+			out[fmt.Sprint("On of ", kind, " beside ", join)] = func(e api.Expr) api.Stmt {
+				s := plain(kind)
+				s.Join, s.On = join, e
+				return s
+			}
+		}
 	}
 	out["On beside Star"] = func(e api.Expr) api.Stmt {
 		return api.Stmt{Kind: 6, Table: "t", Join: "u", On: e, Star: true}
@@ -265,33 +269,45 @@ func TestItems(t *testing.T) {
 	}
 }
 
-// P13.1: of a SELECT On is asked with a Join alone, Limit always; of other Kinds neither is.
-func TestOnAndLimit(t *testing.T) {
-	_, bad := exprs()
+// P13.1: Limit is at least -1, of whichever Kind.
+func TestLimit(t *testing.T) {
+	limits := map[int]bool{-1: true, 0: true, 1: true, 7: true, 1 << 40: true, math.MaxInt: true, -2: false, -3: false, -7: false, -1 << 40: false, math.MinInt: false}
 	for kind := 1; kind <= 6; kind++ {
-		other := kind < 6
-		for limit, want := range map[int]bool{-1: true, 0: true, 1: true, 1 << 40: true, math.MaxInt: true, -2: other, -3: other, math.MinInt: other} {
+		for limit, want := range limits {
 			s := plain(kind)
 			s.Limit = limit
 			may(t, fmt.Sprint("Limit ", limit, " of ", kind), s, want)
-			if kind == 6 {
-				s.Star = true
-				may(t, fmt.Sprint("Limit ", limit, " beside Star"), s, want)
-			}
+			may(t, fmt.Sprint("Limit ", limit, " of ", kind, ", beside what does not count"), odd(s, single()), want)
+			s.Join, s.On = "u", single()
+			may(t, fmt.Sprint("Limit ", limit, " of ", kind, ", beside Join"), s, want)
+			s.Star = true
+			may(t, fmt.Sprint("Limit ", limit, " of ", kind, ", beside Star"), s, want)
+		}
+	}
+}
+
+// P13.1: On is asked with a Join alone, of whichever Kind.
+func TestOn(t *testing.T) {
+	good, bad := exprs()
+	for kind := 1; kind <= 6; kind++ {
+		for why, e := range good {
+			s := plain(kind)
+			s.On = e
+			may(t, fmt.Sprint("without Join, of ", kind, ": ", why), s, true)
+			s.Join = "u"
+			may(t, fmt.Sprint("with Join, of ", kind, ": ", why), s, true)
 		}
 		for why, e := range bad {
 			s := plain(kind)
 			s.On = e
 			may(t, fmt.Sprint("without Join, of ", kind, ": ", why), s, true)
 			s.Join = "u"
-			may(t, fmt.Sprint("with Join, of ", kind, ": ", why), s, other)
-			s.On = single()
-			may(t, fmt.Sprint("with Join, of ", kind), s, true)
+			may(t, fmt.Sprint("with Join, of ", kind, ": ", why), s, false)
 		}
 	}
 }
 
-// odd puts into a statement what does not count for its Kind.
+// odd puts into a statement what does not count for its Kind; without a Join, beside which On is asked of each one.
 func odd(s api.Stmt, e api.Expr) api.Stmt {
 	if s.Kind != 1 {
 		s.Columns = append(make([]api.Defined, 400), api.Defined{Name: "a", Type: -1, Key: true, NotNull: true})
@@ -306,8 +322,7 @@ func odd(s api.Stmt, e api.Expr) api.Stmt {
 		s.Where = e
 	}
 	if s.Kind != 6 {
-		s.Star, s.Desc, s.Limit = true, true, -7
-		s.Join = "none"
+		s.Star, s.Desc = true, true
 		s.Group, s.Order = api.Ref{Table: "?", Name: "a"}, api.Ref{Name: "zz"}
 	}
 	s.On = e
@@ -327,21 +342,32 @@ func TestWhatDoesNotCount(t *testing.T) {
 			"CREATE TABLE w (a INT PRIMARY KEY, b TEXT)", "DROP TABLE t", "INSERT INTO v VALUES (TRUE)", "INSERT INTO u VALUES ('x', -1, NULL, '')",
 			"UPDATE t SET d = a, b = 'x' WHERE c", "DELETE FROM t WHERE a = d", "DELETE FROM u", "SELECT a, b FROM t WHERE c ORDER BY d", "SELECT * FROM t", "SELECT * FROM t ORDER BY a",
 		} {
-			s, store := odd(parsed(t, sql), e), made(t, setup)
-			if err := answers(t, sql, store, s); err != api.OK {
-				t.Errorf("%s: %d", sql, err)
+			s := odd(parsed(t, sql), e)
+			countsNot(t, sql, s)
+			if s.Kind != 6 {
+				s.Join, s.On = "none", expr(t, "zz = a OR 1")
+				countsNot(t, sql, s)
 			}
-			want, _ := check.Check(store, parsed(t, sql))
-			got, _ := check.Check(store, s)
-			if got.Many != want.Many || got.Order != want.Order || got.Group != want.Group || fmt.Sprint(got.Types) != fmt.Sprint(want.Types) {
-				t.Errorf("%s: %s; not %s", sql, said(got), said(want))
-			}
-			for _, wrong := range []string{"", "wrong"} {
-				s.Table = wrong
-				if err := answers(t, sql, store, s); (err == api.ErrNone) != (s.Kind != 1) {
-					t.Errorf("%s: %d", sql, err)
-				}
-			}
+		}
+	}
+}
+
+// countsNot fails the test, unless a statement in which stands what does not count has the plan of its text but for that.
+func countsNot(t *testing.T, sql string, s api.Stmt) {
+	t.Helper()
+	store := made(t, setup)
+	if err := answers(t, sql, store, s); err != api.OK {
+		t.Errorf("%s: %d", sql, err)
+	}
+	want, _ := check.Check(store, parsed(t, sql))
+	got, _ := check.Check(store, s)
+	if got.Many != want.Many || got.Order != want.Order || got.Group != want.Group || fmt.Sprint(got.Types) != fmt.Sprint(want.Types) {
+		t.Errorf("%s: %s; not %s", sql, said(got), said(want))
+	}
+	for _, wrong := range []string{"", "wrong"} {
+		s.Table = wrong
+		if err := answers(t, sql, store, s); (err == api.ErrNone) != (s.Kind != 1) {
+			t.Errorf("%s: %d", sql, err)
 		}
 	}
 }

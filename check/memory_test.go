@@ -113,6 +113,9 @@ func full(t *testing.T, sql string) api.Stmt {
 	t.Helper()
 	s := odd(parsed(t, sql), expr(t, "zz = 'odd' OR d"))
 	s.Columns = append(s.Columns[:0:0], parsed(t, "CREATE TABLE x (a INT, b TEXT)").Columns...)
+	if s.Kind != 6 {
+		s.Join = "none"
+	}
 	return s
 }
 

@@ -38,7 +38,7 @@ func modelMay(s api.Stmt) bool {
 	count := 1
 	var exprs []api.Expr
 	switch {
-	case s.Kind < 1 || s.Kind > 6 || s.Kind == 6 && s.Limit < -1:
+	case s.Kind < 1 || s.Kind > 6 || s.Limit < -1:
 		return false
 	case s.Kind == 1:
 		count = len(s.Columns)
@@ -62,7 +62,7 @@ func modelMay(s api.Stmt) bool {
 	if s.Kind >= 4 && len(s.Where.Nodes) > 0 {
 		exprs = append(exprs, s.Where)
 	}
-	if s.Kind == 6 && s.Join != "" {
+	if s.Join != "" {
 		exprs = append(exprs, s.On)
 	}
 	return count > 0 && count <= 300 && !slices.ContainsFunc(exprs, func(e api.Expr) bool { return !modelExpr(e) })
